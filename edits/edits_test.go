@@ -153,7 +153,6 @@ func TestKinds(t *testing.T) {
 		swap(0, 7), swap(0, 5, 2), swap(0, 5, 5), swap(0, 0), swap(0, -3), swap(0, 12, 11), swap(3, 12), swap(-1), swap(0, math.MaxInt), swap(0, api.MaxID), swap(0, 2, 5, 10, 10),
 		split(0, "m"), split(0, "n"), split(0, ""), split(1, "m"), split(1, "t"), split(2, strings.Repeat("z", 65)), split(3, "z"), split(-1, "a"),
 		merge(2), merge(3), merge(-1), merge(math.MaxInt), log(9), log(0), log(-1), log(api.MaxID), log(math.MaxInt),
-		{Kind: api.EdSplit, Key: "c", File: -1}, {Kind: api.EdMerge, File: api.MaxID}, {Kind: api.EdSwap, File: math.MinInt},
 	} {
 		doesNot(t, s, e)
 	}
