@@ -248,6 +248,21 @@ func TestMissing(t *testing.T) {
 	is(6, 0, false)
 }
 
+// Of what was answered twice, or in other pieces, nothing is missing.
+func TestOverlaps(t *testing.T) {
+	f := newFarm(t, 1)
+	for i := range 5 {
+		does(t, f, log(0, span(3, 1+i, 0)))
+	}
+	does(t, f, step(api.StSync, 0, 0), step(api.StDaemon, 0, 0), step(api.StDouble, 0, 0), step(api.StDeliver, 0, 0), step(api.StLose, 0, 1))
+	// The daemon forgets its batch, and sends a longer one.
+	does(t, f, step(api.StCrash, 0, 0), step(api.StRestart, 0, 0))
+	sends(t, f, 0, span(3, 9, 0))
+	if len(f.Taken()) != 3 || audit.Missing(f, 0) != 0 || f.Host(0).Cursor().Next != 6 || !audit.Sound(f) || !audit.Fits(f) {
+		t.Error(len(f.Taken()), audit.Missing(f, 0), f.Host(0).Cursor())
+	}
+}
+
 func anyStep(r *rand.Rand, f *farm.Farm) api.Step {
 	node, n := r.Intn(3)-1, r.Intn(3)
 	if r.Intn(3) > 0 {
@@ -261,6 +276,52 @@ func anyStep(r *rand.Rand, f *farm.Farm) api.Step {
 		x.N = r.Intn(9)
 	}
 	return x
+}
+
+// A scan that goes on from each page's Next, with any steps between pages, tells traces that rise,
+// and each that is there all the while; and each page is as a model says at that moment.
+func TestScans(t *testing.T) {
+	for seed := range int64(20) {
+		r := rand.New(rand.NewSource(seed))
+		f := newFarm(t, 2)
+		for i := range 12 {
+			sends(t, f, i%2, span(2*i+1, 1, 0))
+		}
+		after, told := 0, []int{}
+		for {
+			page, e := f.Repo().Scan(after, 1+r.Intn(3))
+			if e != api.OK {
+				t.Fatal(e)
+			}
+			m := audit.Models(f)[0]
+			want, _ := m.Scan(after, max(1, len(page.Rows)), f.Repo().Now())
+			for i, row := range page.Rows {
+				if row.Trace <= after || !slices.Equal(row.Spans, want.Rows[i].Spans) {
+					t.Fatal(seed, row, want)
+				}
+				after = row.Trace
+				told = append(told, after)
+			}
+			if page.Next != after {
+				t.Fatal(seed, page, after)
+			}
+			if !page.More {
+				break
+			}
+			for range 30 {
+				x := anyStep(r, f)
+				x.Span.Start = f.Host(0).Now()
+				if x.Kind != api.StFail && x.Kind != api.StCrash && (x.Kind != api.StTick || f.Repo().Now() < 40) {
+					f.Do(x)
+				}
+			}
+		}
+		for i := range 12 {
+			if !slices.Contains(told, 2*i+1) {
+				t.Fatal(seed, told)
+			}
+		}
+	}
 }
 
 // Each farm that steps come to fits, and is sound.

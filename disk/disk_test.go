@@ -185,6 +185,20 @@ func TestOwnMemory(t *testing.T) {
 	}
 }
 
+func TestStarts(t *testing.T) {
+	d := open(t, 10)
+	for i := range 3 {
+		if d.Starts() != i || !d.Up() {
+			t.Error(d.Starts(), d.Up())
+		}
+		d.Crash(nil)
+		if d.Starts() != i || d.Up() {
+			t.Error(d.Starts(), d.Up())
+		}
+		d.Start()
+	}
+}
+
 // plain is what a disk should hold.
 type plain struct {
 	text map[string]string

@@ -227,6 +227,27 @@ func TestWritten(t *testing.T) {
 	written(t, f, 0, slices.Repeat([]api.Span{a}, 20)...)
 }
 
+// What finds no room in the net is lost.
+func TestFullNet(t *testing.T) {
+	f := newFarm(t, 2, 100000)
+	for i := range 2 {
+		does(t, f, log(i, span(3, 1+i, 0)), step(api.StSync, i, 0))
+	}
+	does(t, f, step(api.StDaemon, 0, 0))
+	for range api.MaxNet - 1 {
+		does(t, f, step(api.StDouble, 0, 0))
+	}
+	told(t, f, api.ErrNone, step(api.StDouble, 0, 0))
+	does(t, f, step(api.StDaemon, 1, 0))
+	if l := f.Mail(); len(l) != api.MaxNet || l[63].From != 0 || !f.Host(1).Waiting() {
+		t.Error(len(l))
+	}
+	does(t, f, step(api.StDeliver, 0, 0))
+	if l := f.Mail(); len(l) != api.MaxNet || l[63].From != api.Repo {
+		t.Error(len(l))
+	}
+}
+
 // fits holds the repository's rows against models that have taken some of the batches in doubt.
 func fits(f *farm.Farm) bool {
 	taken := f.Taken()
@@ -265,6 +286,9 @@ func sound(f *farm.Farm) bool {
 					}
 				}
 			}
+		}
+		if _, _, end := f.Host(i).Log(); f.Host(i).Up() && len(f.Written(i)) != end {
+			return false
 		}
 		missing := 0
 		for n := range f.Host(i).Cursor().Next {

@@ -126,12 +126,12 @@ func TestExamples(t *testing.T) {
 
 func TestNone(t *testing.T) {
 	for _, l := range []*hostlog.Log{nil, {}} {
-		_, _, e := l.Read(-1, -1)
-		for i, e := range []api.Errno{l.Append(api.Span{}), l.Sync(), l.Rotate(), l.Retain(0), e} {
+		for i, e := range []api.Errno{l.Append(api.Span{}), l.Sync(), l.Rotate(), l.Retain(0)} {
 			if e != api.ErrNil {
 				t.Error(i, e)
 			}
 		}
+		readsNot(t, l, -1, -1, api.ErrNil)
 		tells(t, l, 0, 0, 0, 0)
 	}
 	for _, d := range []*disk.Disk{nil, {}} {
@@ -156,12 +156,12 @@ func TestOver(t *testing.T) {
 		if again {
 			d.Start()
 		}
-		_, _, e := l.Read(-1, -1)
-		for i, e := range []api.Errno{l.Append(api.Span{}), l.Sync(), l.Rotate(), l.Retain(0), e} {
+		for i, e := range []api.Errno{l.Append(api.Span{}), l.Sync(), l.Rotate(), l.Retain(0)} {
 			if e != api.ErrDown {
 				t.Error(i, e)
 			}
 		}
+		readsNot(t, l, -1, -1, api.ErrDown)
 		tells(t, l, 0, 0, 0, 0)
 	}
 	// An error of the disk but ErrFull, too: here the file is gone.
@@ -225,6 +225,12 @@ func TestFull(t *testing.T) {
 	}
 	ok(t, "it goes on", l.Sync())
 	tells(t, l, 999999999, 1000000015, 1000000015, 1)
+	d = newDisk(t, 1000)
+	d.Append("l999999983", "")
+	l = open(t, d)
+	write(t, l, 0, 17)
+	names(t, d, "l999999983 l999999999")
+	tells(t, l, 999999983, 999999999, 1000000000, 2)
 	// And there may be so many files.
 	d = newDisk(t, 1000)
 	for i := range api.MaxFiles - 1 {
@@ -321,6 +327,34 @@ func TestBroke(t *testing.T) {
 		}
 		if names(t, d, before); !d.Up() {
 			t.Errorf("%d: something was changed", i)
+		}
+	}
+}
+
+// Whatever bytes a segment has: they are a log's, or refused.
+func TestAnyBytes(t *testing.T) {
+	whole := text(0, 3)
+	for i := range len(whole) {
+		for _, c := range []byte{0, 2, 3, 128, 255, whole[i] + 1} {
+			bent := whole[:i] + string([]byte{c}) + whole[i+1:]
+			d := newDisk(t, 1000)
+			d.Append("l0", bent)
+			payloads, end := frames.Whole(bent)
+			l, e := hostlog.Open(d)
+			if e == api.ErrBroke {
+				for _, p := range payloads {
+					if _, bad := spans.Decode(p); bad != api.OK {
+						e = api.OK
+					}
+				}
+				if s, _ := d.Read("l0"); e != api.OK || s != bent {
+					t.Errorf("%q is refused", bent)
+				}
+				continue
+			}
+			if s, _ := d.Read("l0"); e != api.OK || l.End() != len(payloads) || s != bent[:end] {
+				t.Errorf("%q: %v, %q", bent, e, s)
+			}
 		}
 	}
 }

@@ -141,6 +141,19 @@ func TestClock(t *testing.T) {
 	}
 }
 
+func TestLastTick(t *testing.T) {
+	h := newHost(t, 0, 100)
+	for range api.MaxClock {
+		if e := h.Tick(); e != api.OK {
+			t.Fatal(h.Now(), e)
+		}
+	}
+	told(t, []api.Errno{api.ErrLong, 0, api.ErrLong}, h.Tick(), h.Crash(nil), h.Tick())
+	if h.Now() != api.MaxClock {
+		t.Error(h.Now())
+	}
+}
+
 // Whatever the disk fails in is answered with its error, and then it is down.
 func TestFail(t *testing.T) {
 	for name, act := range map[string]func(h *hosts.Host) api.Errno{

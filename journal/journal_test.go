@@ -264,6 +264,30 @@ func TestErrors(t *testing.T) {
 	names(t, d, "j2147483647")
 }
 
+// A batch may have just as many bytes as a frame takes.
+func TestLongest(t *testing.T) {
+	d := newDisk(t, 100000)
+	j := open(t, d, 1)
+	l := slices.Repeat([]api.Cell{cell(strings.Repeat("k", 61), 0, strings.Repeat("v", 63))}, 129)
+	if b, _ := journal.Encode(l); len(b) != 129*127 {
+		t.Fatal(len(b))
+	}
+	l = append(l, l[0])[:129]
+	last := &l[128]
+	last.Value += "v"
+	for b, _ := journal.Encode(l); len(b) < 16384; b, _ = journal.Encode(l) {
+		l = append(l, cell("k", 0, ""))
+	}
+	if b, _ := journal.Encode(l); len(b) != 16384 {
+		t.Fatal(len(b))
+	}
+	ok(t, j.Append(l))
+	if e := j.Append(append(slices.Clone(l), cell("k", 0, ""))); e != api.ErrLong {
+		t.Error(e)
+	}
+	open(t, d, 1, l)
+}
+
 // Wherever the disk fails, and whatever it keeps, each batch is there wholly, or not at all.
 func TestCrashes(t *testing.T) {
 	for seed := range int64(500) {

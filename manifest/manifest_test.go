@@ -181,6 +181,29 @@ func TestDo(t *testing.T) {
 	open(t, d, m.State())
 }
 
+// It is from 2000 bytes on that the file is written anew, ahead of what is done.
+func TestLong(t *testing.T) {
+	for size, anew := range map[int]bool{1999: false, 2000: true, 2001: true} {
+		first := ofState(edits.First())
+		filling := func(n int) string { return ofEdits(api.Edit{Kind: api.EdLog, File: 5, Key: strings.Repeat("k", n)}) }
+		text := first + filling(size-len(first)-len(filling(200))+200)
+		if len(text) != size {
+			t.Fatal(len(text))
+		}
+		d := newDisk(t, 10000)
+		d.Append("m", text)
+		m := open(t, d, after(api.Edit{Kind: api.EdLog, File: 5}))
+		want := text
+		if anew {
+			want = ofState(m.State())
+		}
+		want += ofEdits(table(0, 9))
+		if e := m.Do([]api.Edit{table(0, 9)}); e != api.OK || content(d) != want {
+			t.Errorf("behind %d bytes: %v, %d bytes", size, e, len(content(d)))
+		}
+	}
+}
+
 func TestFull(t *testing.T) {
 	d := newDisk(t, 100)
 	m := open(t, d, edits.First())
@@ -193,6 +216,28 @@ func TestFull(t *testing.T) {
 		t.Error(e)
 	}
 	open(t, d, after(table(0, 5)))
+}
+
+// A long file that finds no room to be written anew lets nothing be done, though the edits would find theirs.
+func TestLongAndFull(t *testing.T) {
+	d := newDisk(t, 3000)
+	m := open(t, d, edits.First())
+	key := strings.Repeat("k", 60)
+	if e := m.Do([]api.Edit{split(0, key), {Kind: api.EdLog, File: 5, Key: strings.Repeat("k", 2000)}}); e != api.OK {
+		t.Fatal(e)
+	}
+	before, l := content(d), []api.Edit{{Kind: api.EdSwap}}
+	d.Append("x", strings.Repeat("x", 3000-d.Size()-len(ofEdits(l...))))
+	if len(ofEdits(l...)) >= len(ofState(m.State())) {
+		t.Fatal("there is room for both")
+	}
+	if e := m.Do(l); e != api.ErrFull || content(d) != before {
+		t.Error(e)
+	}
+	d.Remove("x")
+	if e := m.Do(l); e != api.OK || content(d) == before {
+		t.Error(e)
+	}
 }
 
 func TestOwnMemory(t *testing.T) {

@@ -228,6 +228,19 @@ func TestClock(t *testing.T) {
 	}
 }
 
+func TestLastTick(t *testing.T) {
+	r := newRepo(t, 100)
+	for range api.MaxClock {
+		if e := r.Tick(); e != api.OK {
+			t.Fatal(r.Now(), e)
+		}
+	}
+	told(t, []api.Errno{api.ErrLong, 0, api.ErrLong}, r.Tick(), r.Crash(nil), r.Tick())
+	if r.Now() != api.MaxClock {
+		t.Error(r.Now())
+	}
+}
+
 // Wherever the disk fails, a restart tells no error, and R is as it was: with the batch in which it failed, wholly, or without.
 func TestCrashes(t *testing.T) {
 	for seed := range int64(120) {

@@ -339,6 +339,16 @@ func TestLimits(t *testing.T) {
 		t.Error(s.Held(0), s.Held(1))
 	}
 	ok(t, s.Flush(0), s.Merge(0))
+	s = open(t, newDisk(t, 1<<20))
+	ok(t, s.Put([]api.Cell{cell(key(1), 0, ""), cell(key(2), 0, "")}), s.Split(0))
+	for range 4 {
+		ok(t, s.Put(slices.Repeat([]api.Cell{cell(key(1), 0, "")}, 512)), s.Put(slices.Repeat([]api.Cell{cell(key(2), 0, "")}, 511)))
+	}
+	ok(t, s.Put([]api.Cell{cell(key(2), 0, ""), cell(key(2), 0, "")}), s.Merge(0))
+	if s.Held(0) != 4096 || s.Held(1) != 0 {
+		t.Error(s.Held(0), s.Held(1))
+	}
+	told(t, []api.Errno{api.ErrFull}, s.Put([]api.Cell{cell(key(1), 0, "")}))
 }
 
 func TestDrop(t *testing.T) {

@@ -26,6 +26,14 @@ func TestSum(t *testing.T) {
 			t.Errorf("%q: %x", s, got)
 		}
 	}
+	// Both parts come to just 65521 here, by the last byte: that is 0.
+	onTheSpot := strings.Repeat("\xff", 256) + "\xf0"
+	if got := sums.Sum(onTheSpot); got&0xffff != 0 || got != adler32.Checksum([]byte(onTheSpot)) {
+		t.Errorf("%x", got)
+	}
+	if got := sums.More(65520<<16, "\x01"); got != 1 {
+		t.Errorf("%x", got)
+	}
 	for _, s := range texts() {
 		if got, want := sums.Sum(s), adler32.Checksum([]byte(s)); got != want {
 			t.Errorf("a text of %d: %x, not %x", len(s), got, want)
