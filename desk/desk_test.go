@@ -147,7 +147,12 @@ func TestErrors(t *testing.T) {
 	}
 	long := "crash 0" + strings.Repeat(" 1", 3000)
 	tells(t, d, long, "error 3")
-	tells(t, d, "crash 1"+strings.Repeat(" 1", (4096-7)/2), "ok")
+	longest := "crash 1" + strings.Repeat(" 1", (4096-7)/2-1) + " 11"
+	if len(longest) != api.MaxLine {
+		t.Error(len(longest))
+	}
+	tells(t, d, longest+"1", "error 3")
+	tells(t, d, longest, "ok")
 	tells(t, d, "cursor 1", "cursor 0 0 log 0 0 0")
 	tells(t, d, "find a h 5 4 1", "traces")
 	tells(t, d, "scan 7 1", "next 7 false")

@@ -228,6 +228,31 @@ func TestClock(t *testing.T) {
 	}
 }
 
+// Whatever the disk fails in is answered with its error, and then it is down.
+func TestFail(t *testing.T) {
+	for _, kind := range []int{api.StFlush, api.StCompact, api.StSplit, api.StMerge, api.StTrim, 0} {
+		r := newRepo(t, 100000)
+		takes(t, r, mail(t, 0, 0, span(3, 1, 0), span(7, 1, 0)), api.Ack{Next: 2})
+		ok(t, r.Work(api.StFlush, 0))
+		takes(t, r, mail(t, 0, 2, span(4, 1, 0), span(8, 1, 0)), api.Ack{First: 2, Next: 4})
+		if kind == api.StMerge {
+			ok(t, r.Work(api.StSplit, 0))
+		}
+		ok(t, r.Fail(0, nil))
+		if kind == 0 {
+			takesNot(t, r, mail(t, 0, 4, span(5, 1, 0)), api.ErrDown)
+		} else {
+			told(t, []api.Errno{api.ErrDown}, r.Work(kind, 0))
+		}
+		if r.Up() || len(r.State().Tablets) != 0 {
+			t.Error(kind, "it is up")
+		}
+		told(t, []api.Errno{api.ErrNode, 0}, r.Work(api.StFlush, 0), r.Restart())
+		gets(t, r, 3, span(3, 1, 0))
+		gets(t, r, 8, span(8, 1, 0))
+	}
+}
+
 func TestLastTick(t *testing.T) {
 	r := newRepo(t, 100)
 	for range api.MaxClock {

@@ -381,6 +381,61 @@ func TestFull(t *testing.T) {
 	reads(t, open(t, d), l...)
 }
 
+// However little room there is: what is refused changes nothing that is told, and what is done nothing that is read.
+func TestLittleRoom(t *testing.T) {
+	for name, act := range map[string]func(s *store.Store) api.Errno{
+		"flush":   func(s *store.Store) api.Errno { return s.Flush(1) },
+		"compact": func(s *store.Store) api.Errno { return s.Compact(0, nil) },
+		"split":   func(s *store.Store) api.Errno { return s.Split(1) },
+		"merge":   func(s *store.Store) api.Errno { return s.Merge(0) },
+		"trim":    func(s *store.Store) api.Errno { return s.Trim() },
+	} {
+		full, done := 0, 0
+		for room := range 500 {
+			d := newDisk(t, 10000)
+			s := open(t, d)
+			l := []api.Cell{}
+			for i := range 8 {
+				l = append(l, cell(key(i+1), i+1, "v"))
+			}
+			ok(t, s.Put(l[:4]), s.Flush(0), s.Put(l[4:]), s.Split(0))
+			d.Append("x", strings.Repeat("x", 10000-d.Size()-room))
+			before := fmt.Sprint(s.State(), s.Held(0), s.Held(1), s.Held(2))
+			switch e := act(s); e {
+			case api.OK:
+				done++
+			case api.ErrFull:
+				full++
+				if got := fmt.Sprint(s.State(), s.Held(0), s.Held(1), s.Held(2)); name != "trim" && got != before {
+					t.Errorf("%s with %d bytes: %s, not %s", name, room, got, before)
+				}
+			default:
+				t.Errorf("%s with %d bytes: %v", name, room, e)
+			}
+			reads(t, s, l...)
+			d.Remove("x")
+			ok(t, s.Put([]api.Cell{cell(key(9), 0, "w")}))
+			crash(d)
+			reads(t, open(t, d), append(l, cell(key(9), 9, "w"))...)
+		}
+		if full == 0 || done == 0 {
+			t.Errorf("%s: %d times refused, %d times done", name, full, done)
+		}
+	}
+}
+
+// So many tables both may have, and not one more.
+func TestMergeTables(t *testing.T) {
+	for more, want := range map[int]api.Errno{0: api.OK, 1: api.ErrLong} {
+		s := open(t, newDisk(t, 1<<20))
+		ok(t, s.Put([]api.Cell{cell(key(1), 0, ""), cell(key(2), 0, "")}), s.Split(0))
+		for i := range 256 + more {
+			ok(t, s.Put([]api.Cell{cell(key(1+i%2), 0, "")}), s.Flush(i%2))
+		}
+		told(t, []api.Errno{want}, s.Merge(0))
+	}
+}
+
 // plain is what is read, by keys.
 type plain map[string]api.Cell
 
