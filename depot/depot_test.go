@@ -103,6 +103,20 @@ func TestExamples(t *testing.T) {
 	scans(t, s, 2, 5, 72, api.Page{Next: 2})
 }
 
+func TestNone(t *testing.T) {
+	for _, s := range []*store.Store{nil, {}} {
+		_, e1 := depot.Get(s, 3, 20)
+		_, e2 := depot.Tree(s, 3, 20)
+		_, e3 := depot.Scan(s, 0, 1, 20)
+		_, e4 := depot.Find(s, query("a", "h", 0, 1, 1), 20)
+		for i, e := range []api.Errno{e1, e2, e3, e4} {
+			if e != api.ErrNil {
+				t.Error(i, e)
+			}
+		}
+	}
+}
+
 func TestErrors(t *testing.T) {
 	d, _ := disk.New(1000)
 	over, _ := store.Open(d)
@@ -110,7 +124,7 @@ func TestErrors(t *testing.T) {
 	for _, x := range []struct {
 		s            *store.Store
 		right, wrong api.Errno
-	}{{nil, api.ErrNil, api.ErrNil}, {new(store.Store), api.ErrNil, api.ErrNil}, {examples(t), api.OK, api.ErrArg}, {over, api.ErrDown, api.ErrArg}} {
+	}{{examples(t), api.OK, api.ErrArg}, {over, api.ErrDown, api.ErrArg}} {
 		for _, trace := range []int{3, 0, -1, api.MaxID + 1, math.MaxInt, math.MinInt} {
 			want := x.wrong
 			if trace == 3 {

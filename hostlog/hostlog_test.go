@@ -297,13 +297,13 @@ func TestOpen(t *testing.T) {
 	if s, e := d.Read("l7"); s != "" || e != api.OK {
 		t.Errorf("l7 is %q, %v", s, e)
 	}
-	// More records than a segment has now: the next one goes to a new one.
+	// A segment that is full when it is opened: the next record goes to a new one.
 	d = newDisk(t, 10000)
-	d.Append("l0", text(0, 20))
+	d.Append("l0", text(0, 16))
 	l = open(t, d)
-	write(t, l, 20, 21)
-	names(t, d, "l0 l20")
-	tells(t, l, 0, 20, 21, 2)
+	write(t, l, 16, 17)
+	names(t, d, "l0 l16")
+	tells(t, l, 0, 16, 17, 2)
 }
 
 func TestBroke(t *testing.T) {

@@ -113,7 +113,7 @@ func TestCheck(t *testing.T) {
 
 func TestErrors(t *testing.T) {
 	for _, s := range []*store.Store{nil, {}} {
-		takes(t, s, api.Batch{Host: 9}, 20, api.Ack{}, 0, api.ErrNil)
+		takes(t, s, api.Batch{Spans: some(1)}, 20, api.Ack{}, 0, api.ErrNil)
 		takes(t, s, api.Batch{Spans: some(1)}, 99, api.Ack{}, 0, api.ErrNil)
 	}
 	d := newDisk(t, 100)

